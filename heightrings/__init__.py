@@ -1,0 +1,1 @@
+"""Heightrings: lines of one height in a table of heights."""
