@@ -1,0 +1,74 @@
+"""What point 3 promises of lines and regions, over many small tables and all their cuts."""
+
+import unittest
+
+from heightrings.gates import gates
+from heightrings.lines import lines
+from heightrings.regions import regions, sides
+from heightrings.tables import mirrored, raised, turned
+from tests.samples import cuts_of, small_tables
+
+
+def told_as_lines(some):
+    """Lines of a changed table, told as they must be: rings from the least gate on, all sorted."""
+    told = []
+    for word, path in some:
+        at = path.index(min(path)) if word == "ring" else 0
+        told.append((word, tuple(path[at:] + path[:at])))
+    return sorted(told)
+
+
+def turned_gate(gate, tall):
+    x, y, way = gate
+    return (tall - 1 - y, x, 1) if way == 0 else (tall - 2 - y, x, 0)
+
+
+def mirrored_gate(gate, wide):
+    x, y, way = gate
+    return (wide - 2 - x, y, 0) if way == 0 else (wide - 1 - x, y, 1)
+
+
+class PromiseTest(unittest.TestCase):
+    def test_each_open_gate_lies_in_just_one_line_once(self):
+        for rows in small_tables():
+            for cut in cuts_of(rows):
+                passed = [gate for _, path in lines(rows, cut) for gate in path]
+                self.assertEqual(sorted(passed), gates(rows, cut))
+
+    def test_regions_and_lines_hang_together_as_a_tree(self):
+        for rows in small_tables():
+            for cut in cuts_of(rows):
+                many = len(regions(rows, cut))
+                self.assertEqual(many, len(lines(rows, cut)) + 1)
+                reached = {0}
+                for _ in range(many):
+                    for pair in sides(rows, cut):
+                        if reached & set(pair):
+                            reached |= set(pair)
+                self.assertEqual(len(reached), many)
+
+    def test_a_turned_table_has_the_turned_lines(self):
+        for rows in small_tables():
+            for cut in cuts_of(rows):
+                some = [(word, [turned_gate(gate, len(rows)) for gate in path]) for word, path in lines(rows, cut)]
+                self.assertEqual(lines(turned(rows), cut), told_as_lines(some))
+
+    def test_a_mirrored_table_has_the_mirrored_lines(self):
+        # In a mirror left is right, so the lines go the other way.
+        for rows in small_tables():
+            wide = len(rows[0])
+            for cut in cuts_of(rows):
+                some = [(word, [mirrored_gate(gate, wide) for gate in path[::-1]]) for word, path in lines(rows, cut)]
+                self.assertEqual(lines(mirrored(rows), cut), told_as_lines(some))
+
+    def test_a_raised_table_has_the_raised_lines(self):
+        for rows in small_tables():
+            for by in (-(10 ** 6), -1, 3, 10 ** 8):
+                higher = raised(rows, by)
+                for cut in cuts_of(rows)[1::2]:
+                    self.assertEqual(lines(higher, cut + by), lines(rows, cut))
+                    self.assertEqual(regions(higher, cut + by), regions(rows, cut))
+
+
+if __name__ == "__main__":
+    unittest.main()
