@@ -6,6 +6,7 @@ import random
 import unittest
 
 from heightrings.errors import NoTable
+from heightrings.tables import turned
 
 BOUND = 10 ** 9
 
@@ -20,6 +21,24 @@ NO_TABLES = [
     ([list(range(8))] * 2, 0),
     ([[1, 2], [1, 2, 3]], 1),
     ([[1, 2], [3, 4], [5, BOUND + 1]], 2),
+]
+
+# Rings in rings at the cut 0.
+DEEP = [
+    [0, 0, 0, 0, 0, 0, 0],
+    [0, 1, 1, 1, 1, 1, 0],
+    [0, 1, 0, 0, 0, 1, 0],
+    [0, 1, 0, 1, 0, 1, 0],
+    [0, 1, 0, 0, 0, 1, 0],
+    [0, 1, 1, 1, 1, 1, 0],
+    [0, 0, 0, 0, 0, 0, 0],
+]
+TWO_IN_ONE = [
+    [0, 0, 0, 0, 0, 0, 0],
+    [0, 1, 1, 1, 1, 1, 0],
+    [0, 1, 0, 1, 0, 1, 0],
+    [0, 1, 1, 1, 1, 1, 0],
+    [0, 0, 0, 0, 0, 0, 0],
 ]
 
 
@@ -46,6 +65,15 @@ def small_tables():
     yield from mixed_tables(60, 1, range(2))
     yield from mixed_tables(60, 2, range(5))
     yield from mixed_tables(20, 3, range(-30, 30, 7))
+
+
+def ringed_tables():
+    """Tables that have many rings, some of them in others."""
+    yield from (DEEP, TWO_IN_ONE, turned(TWO_IN_ONE), [[1 - height for height in row] for row in DEEP])
+    # What would be runs are rings where all the edge is low.
+    for rows in mixed_tables(80, 6, range(3)):
+        inner = [[0] + row[1:-1] + [0] for row in rows[1:-1]]
+        yield [[0] * len(rows[0])] + inner + [[0] * len(rows[0])]
 
 
 def cuts_of(rows):

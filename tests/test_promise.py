@@ -1,12 +1,16 @@
-"""What point 3 promises of lines and regions, over many small tables and all their cuts."""
+"""What point 3 promises, over many small tables and all their cuts."""
 
 import unittest
+from fractions import Fraction
 
+from heightrings.areas import region_areas, ring_area
+from heightrings.bands import tree
 from heightrings.gates import gates
 from heightrings.lines import lines
 from heightrings.regions import regions, sides
 from heightrings.tables import mirrored, raised, turned
-from tests.samples import cuts_of, small_tables
+from heightrings.within import holds
+from tests.samples import cuts_of, ringed_tables, small_tables
 
 
 def told_as_lines(some):
@@ -46,6 +50,50 @@ class PromiseTest(unittest.TestCase):
                         if reached & set(pair):
                             reached |= set(pair)
                 self.assertEqual(len(reached), many)
+
+    def test_the_areas_of_the_regions_come_to_the_table(self):
+        for rows in small_tables():
+            for cut in cuts_of(rows):
+                areas = [Fraction(*area) for area in region_areas(rows, cut)]
+                self.assertEqual(len(areas), len(regions(rows, cut)))
+                self.assertEqual(sum(areas), (len(rows) - 1) * (len(rows[0]) - 1))
+
+    def test_the_area_of_a_ring_is_that_of_all_regions_within_it(self):
+        for rows in ringed_tables():
+            for cut in cuts_of(rows):
+                areas = [Fraction(*area) for area in region_areas(rows, cut)]
+                for line in lines(rows, cut):
+                    if line[0] == "ring":
+                        within = [holds(line, *some[0]) for _, some in regions(rows, cut)]
+                        area = sum(area for area, inside in zip(areas, within) if inside)
+                        self.assertEqual(Fraction(*ring_area(rows, cut, line)), area)
+
+    def test_all_points_of_a_region_lie_in_a_ring_or_none_does(self):
+        for rows in ringed_tables():
+            for cut in cuts_of(rows):
+                for line in lines(rows, cut):
+                    if line[0] == "ring":
+                        for _, some in regions(rows, cut):
+                            self.assertEqual(len({holds(line, x, y) for x, y in some}), 1)
+
+    def test_all_lines_and_bands_hang_together_as_one_tree(self):
+        for rows in list(small_tables())[:-20:2] + list(ringed_tables()):
+            nodes = tree(rows)
+            below = {(node[0] - 1, at): k for k, node in enumerate(nodes) for at in node[1]}
+            above = {(node[0], at): k for k, node in enumerate(nodes) for at in node[2]}
+            every = [(cut, at) for cut in cuts_of(rows) for at in range(len(lines(rows, cut)))]
+            self.assertLessEqual(set(every), set(below))
+            # Each line joins the node beneath it to the one above it.
+            self.assertEqual(set(below), set(above))
+            self.assertEqual(len(nodes), len(below) + 1)
+            reached = {0}
+            while True:
+                more = {k for line in below for k in (below[line], above[line])
+                        if {below[line], above[line]} & reached}
+                if more <= reached:
+                    break
+                reached |= more
+            self.assertEqual(len(reached), len(nodes))
 
     def test_a_turned_table_has_the_turned_lines(self):
         for rows in small_tables():

@@ -6,40 +6,12 @@ from heightrings.lines import lines
 from heightrings.regions import regions, sides
 from heightrings.tables import mirrored, turned
 from heightrings.within import crossed, holds, lies_in
-from tests.samples import Case, cuts_of, mixed_tables, small_tables
+from tests.samples import DEEP, TWO_IN_ONE, Case, cuts_of, ringed_tables, small_tables
 
 FAR = 10 ** 30
 VERY_FAR = 10 ** 5000
 HILL = [[0, 0, 0], [0, 1, 0], [0, 0, 0]]
 RING = ("ring", ((0, 1, 0), (1, 1, 1), (1, 1, 0), (1, 0, 1)))
-DEEP = [
-    [0, 0, 0, 0, 0, 0, 0],
-    [0, 1, 1, 1, 1, 1, 0],
-    [0, 1, 0, 0, 0, 1, 0],
-    [0, 1, 0, 1, 0, 1, 0],
-    [0, 1, 0, 0, 0, 1, 0],
-    [0, 1, 1, 1, 1, 1, 0],
-    [0, 0, 0, 0, 0, 0, 0],
-]
-TWO_IN_ONE = [
-    [0, 0, 0, 0, 0, 0, 0],
-    [0, 1, 1, 1, 1, 1, 0],
-    [0, 1, 0, 1, 0, 1, 0],
-    [0, 1, 1, 1, 1, 1, 0],
-    [0, 0, 0, 0, 0, 0, 0],
-]
-
-
-def ringed_tables():
-    """Tables that have rings in rings, and runs beside them."""
-    yield from (DEEP, TWO_IN_ONE, turned(TWO_IN_ONE), [[1 - height for height in row] for row in DEEP])
-    # An edge all alike makes rings of what would be runs.
-    for rows in mixed_tables(60, 5, range(3)):
-        yield [[row[0] if x in (0, 6) else row[x % len(row)] for x in range(7)] for row in rows]
-    for rows in mixed_tables(60, 6, range(2)):
-        wide, tall = len(rows[0]), len(rows)
-        edged = [[0] * wide] + [[0] + row[1:-1] + [0] for row in rows[1:-1]] + [[0] * wide]
-        yield edged if tall > 2 else rows
 
 
 def reached(start, pairs):
