@@ -70,3 +70,16 @@ def touches(a, b, c, d):
 def apart(a, b, c, d):
     """Whether the numbers from a to b and those from c to d have none in common."""
     return max(a, b) < min(c, d) or max(c, d) < min(a, b)
+
+
+def lies_near(point, start, end, bound):
+    """Whether a point lies no farther than the bound from the segment from start to end, maybe a single point."""
+    (x, y), (a, b), (c, d) = point, start, end
+    squared = (c - a) ** 2 + (d - b) ** 2
+    along = (x - a) * (c - a) + (y - b) * (d - b)
+    if along <= 0:
+        return (x - a) ** 2 + (y - b) ** 2 <= bound ** 2
+    if along >= squared:
+        return (x - c) ** 2 + (y - d) ** 2 <= bound ** 2
+    # The turn is how far it lies off times how long the segment is: squared, both stay whole.
+    return turn(start, end, point) ** 2 <= bound ** 2 * squared

@@ -1,5 +1,6 @@
 """What point 3 promises, over many small tables and all their cuts."""
 
+import itertools
 import unittest
 from fractions import Fraction
 
@@ -7,10 +8,14 @@ from heightrings.areas import region_areas, ring_area
 from heightrings.bands import tree
 from heightrings.gates import gates
 from heightrings.lines import lines
+from heightrings.maps import pins_of, scale_of, web_of
 from heightrings.regions import regions, sides
 from heightrings.tables import mirrored, raised, turned
+from heightrings.thin import thinned
+from heightrings.webs import meeting
 from heightrings.within import holds
 from tests.samples import cuts_of, ringed_tables, small_tables
+from tests.thinning import what_is_wrong
 
 
 def told_as_lines(some):
@@ -94,6 +99,23 @@ class PromiseTest(unittest.TestCase):
                     break
                 reached |= more
             self.assertEqual(len(reached), len(nodes))
+
+    def test_lines_of_several_cuts_never_meet(self):
+        for rows in list(small_tables())[::3] + list(ringed_tables())[::4]:
+            for many in (1, 2, 3):
+                for cuts in list(itertools.permutations(cuts_of(rows), many))[:9 * many:many]:
+                    self.assertIsNone(meeting(web_of(rows, list(cuts))))
+
+    def test_a_thinned_web_of_a_table_keeps_what_is_promised(self):
+        for rows in list(small_tables())[::8] + list(ringed_tables())[:6]:
+            scale = scale_of(rows)
+            for many in (1, 2, 3):
+                for cuts in list(itertools.combinations(cuts_of(rows)[::-1], many))[-3:]:
+                    web = web_of(rows, list(cuts))
+                    if sum(len(points) for _, points in web) <= 60:
+                        for bound in (0, scale // 3, 2 * scale):
+                            told = thinned(web, bound, pins_of(rows))
+                            self.assertIsNone(what_is_wrong(web, bound, pins_of(rows), told), (rows, cuts, bound))
 
     def test_a_turned_table_has_the_turned_lines(self):
         for rows in small_tables():
