@@ -22,7 +22,8 @@ def thinned(web, bound, pins):
 def let_go(web, kept, bound, pins):
     """Lets each point go that may go then, one after another; whether any one went."""
     gone = False
-    for key in kept_keys(kept):
+    keys = kept_keys(kept)
+    for key in keys:
         if may_go(web, kept, key, bound, pins):
             k, i = key
             kept[k].remove(i)
