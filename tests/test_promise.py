@@ -5,12 +5,13 @@ import unittest
 from fractions import Fraction
 
 from heightrings.areas import region_areas, ring_area
+from heightrings.back import told_back
 from heightrings.bands import tree
-from heightrings.gates import gates
+from heightrings.gates import gates, ties
 from heightrings.lines import lines
 from heightrings.maps import pins_of, scale_of, web_of
 from heightrings.regions import regions, sides
-from heightrings.tables import mirrored, raised, turned
+from heightrings.tables import mirrored, raised, span, turned
 from heightrings.thin import thinned
 from heightrings.webs import meeting
 from heightrings.within import holds
@@ -37,12 +38,51 @@ def mirrored_gate(gate, wide):
     return (wide - 2 - x, y, 0) if way == 0 else (wide - 1 - x, y, 1)
 
 
+def ends_of(gate):
+    """The two points that a gate lies between."""
+    x, y, way = gate
+    return (x, y), (x + 1 - way, y + way)
+
+
+def lies_left(point, gate, after):
+    """Whether a point lies to the left of the way from a gate's middle to another's."""
+    (a, b), (c, d) = [[first + second for first, second in zip(*ends_of(some))] for some in (gate, after)]
+    # Rows go down, so left is where the turn is below 0.
+    return (c - a) * (2 * point[1] - b) - (d - b) * (2 * point[0] - a) < 0
+
+
+def is_at_edge(gate, wide, tall):
+    """Whether a gate lies on the table's edge."""
+    x, y, way = gate
+    return y in (0, tall - 1) if way == 0 else x in (0, wide - 1)
+
+
 class PromiseTest(unittest.TestCase):
     def test_each_open_gate_lies_in_just_one_line_once(self):
         for rows in small_tables():
             for cut in cuts_of(rows):
                 passed = [gate for _, path in lines(rows, cut) for gate in path]
                 self.assertEqual(sorted(passed), gates(rows, cut))
+
+    def test_a_line_goes_on_where_the_gates_are_tied_and_ends_at_the_edge(self):
+        for rows in list(small_tables())[::2] + list(ringed_tables())[::3]:
+            wide, tall = len(rows[0]), len(rows)
+            for cut in cuts_of(rows):
+                tied = {pair for x in range(wide - 1) for y in range(tall - 1) for pair in ties(rows, cut, x, y)}
+                for word, path in lines(rows, cut):
+                    steps = list(zip(path, path[1:])) + ([(path[-1], path[0])] if word == "ring" else [])
+                    self.assertTrue(all(tuple(sorted(step)) in tied for step in steps))
+                    if word == "run":
+                        self.assertTrue(is_at_edge(path[0], wide, tall) and is_at_edge(path[-1], wide, tall))
+
+    def test_a_line_has_all_high_points_beside_it_to_its_left(self):
+        for rows in list(small_tables())[::2] + list(ringed_tables())[::3]:
+            for cut in cuts_of(rows):
+                for word, path in lines(rows, cut):
+                    steps = list(zip(path, path[1:])) + ([(path[-1], path[0])] if word == "ring" else [])
+                    for gate, after in steps:
+                        for x, y in ends_of(gate):
+                            self.assertEqual(lies_left((x, y), gate, after), rows[y][x] > cut)
 
     def test_regions_and_lines_hang_together_as_a_tree(self):
         for rows in small_tables():
@@ -116,6 +156,12 @@ class PromiseTest(unittest.TestCase):
                         for bound in (0, scale // 3, 2 * scale):
                             told = thinned(web, bound, pins_of(rows))
                             self.assertIsNone(what_is_wrong(web, bound, pins_of(rows), told), (rows, cuts, bound))
+
+    def test_from_its_lines_the_very_table_is_told_back(self):
+        for rows in list(small_tables())[:-20] + list(ringed_tables()):
+            least, greatest = span(rows)
+            cuts = [lines(rows, cut)[::-1] for cut in range(least, greatest)]
+            self.assertEqual(told_back(len(rows[0]), len(rows), least, cuts), rows)
 
     def test_a_turned_table_has_the_turned_lines(self):
         for rows in small_tables():
